@@ -24,6 +24,13 @@ func spare[T comparable](l []T, filler T) ([]T, func() bool) {
 	return whole[:len(l)], func() bool { return reflect.DeepEqual(whole, before) }
 }
 
+// overwrite changes l up to its capacity, which would show in whatever shares its memory.
+func overwrite[T any](l []T, filler T) {
+	for i := range l[:cap(l)] {
+		l[:cap(l)][i] = filler
+	}
+}
+
 // texts returns all strings of up to most of the given pieces.
 func texts(pieces []string, most int) []string {
 	all := []string{""}

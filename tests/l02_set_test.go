@@ -378,7 +378,7 @@ func TestP15SetsLeaveTheirArgumentsAlone(t *testing.T) {
 				t.Fatalf("a function of chapter 3 changes its arguments %v and %v", l, other)
 			}
 			for i, result := range results {
-				overwrite(result)
+				overwrite(result, -999)
 				if !aKept() || !bKept() {
 					t.Fatalf("result %d shares memory with the arguments %v and %v", i, l, other)
 				}
@@ -387,19 +387,13 @@ func TestP15SetsLeaveTheirArgumentsAlone(t *testing.T) {
 	}
 }
 
-func overwrite(l []int) {
-	for i := range l[:cap(l)] {
-		l[:cap(l)][i] = -999
-	}
-}
-
 func TestP15SetsKeepNoState(t *testing.T) {
 	for range 2 {
 		l := impl.IntRange(3)
 		same(t, "IntRange(3) after its last result was changed", l, []int{0, 1, 2})
-		overwrite(l)
+		overwrite(l, -999)
 		set := impl.SetOf([]int{2, 1})
 		same(t, "SetOf([]int{2, 1}) after its last result was changed", set, []int{1, 2})
-		overwrite(set)
+		overwrite(set, -999)
 	}
 }
