@@ -4,6 +4,7 @@ import (
 	"fmt"
 	"reflect"
 	"testing"
+	"unsafe"
 )
 
 // same reports a difference between a result and what the document requires; a nil slice and an empty one are equal.
@@ -56,4 +57,45 @@ func callOf(name string, args ...any) string {
 		text += fmt.Sprintf("%#v", arg)
 	}
 	return text + ")"
+}
+
+// span is the memory of a slice, up to its capacity, or of a string.
+type span struct{ from, end uintptr }
+
+// spansOf returns the memory of all slices and strings in a value, at every depth.
+func spansOf(v reflect.Value) []span {
+	var all []span
+	switch v.Kind() {
+	case reflect.Struct:
+		for i := range v.NumField() {
+			all = append(all, spansOf(v.Field(i))...)
+		}
+	case reflect.Slice:
+		all = append(all, span{v.Pointer(), v.Pointer() + uintptr(v.Cap())*v.Type().Elem().Size()})
+		for i := range v.Len() {
+			all = append(all, spansOf(v.Index(i))...)
+		}
+	case reflect.String:
+		from := uintptr(unsafe.Pointer(unsafe.StringData(v.String())))
+		all = append(all, span{from, from + uintptr(v.Len())})
+	}
+	return all
+}
+
+// checkNew reports memory that a result has in common with an argument, or twice within itself.
+func checkNew(t *testing.T, call string, result any, args ...any) {
+	t.Helper()
+	var others []span
+	for _, arg := range args {
+		others = append(others, spansOf(reflect.ValueOf(arg))...)
+	}
+	for _, own := range spansOf(reflect.ValueOf(result)) {
+		for _, other := range others {
+			if own.from < other.end && other.from < own.end {
+				t.Errorf("%s shares memory", call)
+				return
+			}
+		}
+		others = append(others, own)
+	}
 }
