@@ -113,6 +113,33 @@ func networks() []impl.Project {
 	return all
 }
 
+// badNetworks are the projects that are not valid with which the tests of links call every function.
+func badNetworks() []variant {
+	all := chosen(false)
+	add := func(name string, p impl.Project) {
+		all = append(all, variant{name, false, p})
+	}
+	for i, p := range []impl.Project{linked(1), linked(2, before(0, 1, 1)), linked(2, before(0, 1, 2), after(1, 0, 3)), ring(0), ring(1)} {
+		for _, deadline := range ints(math.MinInt, -1, 0, 61, math.MaxInt) {
+			q := deepCopy(p)
+			q.Deadline = deadline
+			add(fmt.Sprint("the Deadline ", deadline, " and the links of project ", i), q)
+		}
+		q := deepCopy(p)
+		q.Links = append(q.Links, before(0, len(q.Activities), 1))
+		add(fmt.Sprint("a link to no activity and the links of project ", i), q)
+	}
+	for sum := range 2 {
+		q := ring(sum)
+		q.Links = append(q.Links, before(0, 1, -60))
+		add(fmt.Sprint("13 links with a sum of ", sum), q)
+	}
+	add("very many links", linked(2, slices.Repeat([]impl.Link{before(0, 1, 1)}, 100000)...))
+	add("very many links in both directions", linked(2, slices.Repeat([]impl.Link{before(0, 1, 1), before(1, 0, 1)}, 50000)...))
+	add("very many activities", linked(100000))
+	return all
+}
+
 func durationsOf(p impl.Project, a int) []int {
 	var all []int
 	for _, m := range p.Activities[a].Modes {
@@ -664,24 +691,9 @@ func checkNoLinks(t *testing.T, name string, p impl.Project) {
 }
 
 func TestP15LinksOfProjectsThatAreNotValid(t *testing.T) {
-	for _, v := range chosen(false) {
+	for _, v := range badNetworks() {
 		checkNoLinks(t, v.name, v.p)
 	}
-	good := []impl.Project{linked(1), linked(2, before(0, 1, 1)), linked(2, before(0, 1, 2), after(1, 0, 3)), ring(1)}
-	for i, p := range good {
-		for _, deadline := range ints(math.MinInt, -1, 0, 61, math.MaxInt) {
-			q := deepCopy(p)
-			q.Deadline = deadline
-			checkNoLinks(t, fmt.Sprint("the Deadline ", deadline, " and the links of project ", i), q)
-		}
-		q := deepCopy(p)
-		q.Links = append(q.Links, before(0, len(q.Activities), 1))
-		checkNoLinks(t, fmt.Sprint("a link to no activity and the links of project ", i), q)
-	}
-	q := ring(1)
-	q.Links = append(q.Links, before(0, 1, 0))
-	checkNoLinks(t, "13 links", q)
-	checkNoLinks(t, "very many links", linked(2, slices.Repeat([]impl.Link{before(0, 1, 1), before(1, 0, 1)}, 50000)...))
 }
 
 func TestP15NilAndEmptyListsOfLinksAreEqual(t *testing.T) {
